@@ -506,3 +506,33 @@ func TestMany(t *testing.T) {
 		t.Errorf("%s", got)
 	}
 }
+
+// Waits: are there changes that aren't kept?
+func TestWaits(t *testing.T) {
+	for _, c := range []struct {
+		name string
+		l    []act
+		want bool
+	}{
+		{"new", nil, false},
+		{"a draft", []act{write("")}, true},
+		{"kept", []act{write("a"), sync}, false},
+		{"moved", []act{write("a"), sync, move}, true},
+		{"nothing to move", []act{move}, false},
+		{"moved, kept", []act{write("a"), move, sync}, false},
+		{"too much", []act{write(strings.Repeat("x", api.MaxFile+1))}, false},
+		{"spoilt", []act{spoil("a")}, false},
+		{"it still waits", []act{write("a"), spoil("a")}, true},
+		{"a step", []act{step}, false},
+		{"down", []act{write("a"), arm(0), sync}, true},
+		{"down ahead of it", []act{arm(0), write("a")}, false},
+		{"behind a fall", []act{write("a"), arm(0), sync, restart(0, 0)}, false},
+		{"behind a fall, torn", []act{write("ab"), arm(0), sync, restart(0, 1)}, false},
+	} {
+		d := after(c.l...)
+		was := d.Down()
+		if got := d.Waits(); got != c.want || d.Down() != was {
+			t.Errorf("%s: %v, want %v", c.name, got, c.want)
+		}
+	}
+}
