@@ -236,6 +236,19 @@ func TestPodText(t *testing.T) {
 	}
 }
 
+// K2: the words of what a container was given.
+func TestGivenWords(t *testing.T) {
+	for _, c := range []struct {
+		cpus api.Set
+		devs []int
+		want string
+	}{{0, nil, "- -"}, {1, []int{}, "0 -"}, {0b1101110, []int{0, 3, 15}, "1-3,5-6 0,3,15"}, {1<<64 - 1, []int{-1}, "0-63 -1"}} {
+		if got := strings.Join(GivenWords(api.Given{CPUs: c.cpus, Devs: c.devs}), " "); got != c.want {
+			t.Errorf("%b %v: %s, want %s", c.cpus, c.devs, got, c.want)
+		}
+	}
+}
+
 // K2: the text of what is held.
 func TestText(t *testing.T) {
 	web := amount(2000, 64<<20)

@@ -32,7 +32,7 @@ func Text(l []api.Held) (string, error) {
 	}
 	var b strings.Builder
 	for _, h := range l {
-		b.WriteString(podText(h.Pod, func(i int) []string { return givenWords(h.Given[i]) }))
+		b.WriteString(podText(h.Pod, func(i int) []string { return GivenWords(h.Given[i]) }))
 	}
 	ahead := b.String()
 	return ahead + sumLine(ahead), nil
@@ -58,8 +58,8 @@ func contWords(c api.Cont) []string {
 	}
 }
 
-// givenWords: what a line tells of what a container was given.
-func givenWords(g api.Given) []string {
+// GivenWords: what a line tells of what a container was given.
+func GivenWords(g api.Given) []string {
 	return []string{orNothing(bits.Text(g.CPUs)), listText(g.Devs, strconv.Itoa)}
 }
 
